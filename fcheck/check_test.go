@@ -81,6 +81,19 @@ func TestReadTellsWhatParseTells(t *testing.T) {
 	}
 }
 
+// ( ) in ( ), some of them a call's: as deep as they may be, and one deeper.
+func TestReadAtTheLimitOfBrackets(t *testing.T) {
+	for _, c := range []struct{ to, word string }{{"d", "sqrt"}, {"d", "abs"}, {"i", "abs"}, {"i", "int"}, {"f", "float"}, {"d", "double"}} {
+		s := strings.Repeat(c.word+"((", api.MaxDeep/2) + c.to + strings.Repeat("))", api.MaxDeep/2)
+		checkBody(t, c.to+" = "+s+";", api.OK)
+		for _, more := range []string{"(" + s + ")", c.word + "(" + s + ")"} {
+			if u, e := fcheck.Read(declarations + c.to + " = " + more + ";"); u != nil || e != api.ErrLimit {
+				t.Errorf("Read of %q = %v, %d; want ErrLimit", more, u != nil, e)
+			}
+		}
+	}
+}
+
 func TestKnownNames(t *testing.T) {
 	checkText(t, "int i; int i;", api.ErrKnown, 0)
 	checkText(t, "int i; double i;", api.ErrKnown, 0)

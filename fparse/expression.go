@@ -28,15 +28,15 @@ func (p *parser) signed() api.Expr {
 func (p *parser) strongest() api.Expr {
 	if t := typeOf(p.next().Text); t != api.NoType {
 		p.take(api.LexWord)
-		return api.Expr{Op: api.Cast, Type: t, Kids: []api.Expr{p.enclosed()}}
+		return api.Expr{Op: api.Cast, Type: t, Kids: []api.Expr{p.inner()}}
 	}
 	switch {
 	case p.next().Kind == api.LexName:
 		return p.variable()
 	case p.skip("sqrt"):
-		return over(api.Sqrt, p.enclosed())
+		return over(api.Sqrt, p.inner())
 	case p.skip("abs"):
-		return over(api.Abs, p.enclosed())
+		return over(api.Abs, p.inner())
 	case p.next().Text == "(":
 		return p.inner()
 	}
@@ -53,7 +53,7 @@ func (p *parser) variable() api.Expr {
 	return api.Expr{Op: api.Cell, Text: name, Kids: []api.Expr{index}}
 }
 
-// inner is an expression in ( ), of which the tree shows nothing: so they are counted here.
+// inner is what stands in ( ) within an expression, be they a call's or not. They are counted here, since the tree does not show all of them.
 func (p *parser) inner() api.Expr {
 	p.open++
 	p.deepest = max(p.deepest, p.open)

@@ -9,12 +9,17 @@ import (
 	"plumbline/fparse"
 )
 
+func checkOK(t *testing.T, s string) {
+	t.Helper()
+	if _, e, at := fparse.Parse(s); e != api.OK || at != 0 {
+		t.Errorf("Parse(%.160q) has the error %d at %d", s, e, at)
+	}
+}
+
 // checkLimit: what is made of n is a program at the limit, and none at one more.
 func checkLimit(t *testing.T, limit int, made func(n int) string) {
 	t.Helper()
-	if _, e, at := fparse.Parse(made(limit)); e != api.OK || at != 0 {
-		t.Errorf("Parse(%.80q) at the limit has the error %d at %d", made(limit), e, at)
-	}
+	checkOK(t, made(limit))
 	checkFault(t, made(limit+1), api.ErrLimit, 0)
 	checkFault(t, made(limit+1)+" ;", api.ErrForm, len(made(limit+1))+1)
 	checkFault(t, made(limit+1)+" ; $", api.ErrChar, len(made(limit+1))+3)
@@ -87,11 +92,11 @@ func TestLimitOfExpressions(t *testing.T) {
 	}
 }
 
-// ( ) leave nothing in a tree, and have a limit of their own: those of an expression that stand in each other, whatever stands between.
+// ( ) around an expression leave nothing in a tree, and ( ) have a limit of their own: those of an expression that stand in each other, whatever stands between. Those of an if or a while are none of the expression.
 func TestLimitOfBrackets(t *testing.T) {
 	for _, c := range []struct{ ahead, middle, behind string }{
 		{"x = ", "1", ";"}, {"x = ", "1 + 2", ";"}, {"x = 1 + ", "x", " * 2;"}, {"x = -", "x", ";"},
-		{"x[", "1", "] = 1;"}, {"x = a[", "1", "];"}, {"if (", "x", ") { }"}, {"while (", "x", ") { }"}, {"x = sqrt(", "x", ");"}, {"x = abs(", "x", ");"}, {"x = int(", "x", ");"},
+		{"x[", "1", "] = 1;"}, {"x = a[", "1", "];"}, {"if (", "x", ") { }"}, {"while (", "x", ") { }"},
 		{"x = (1) + ", "1", " + (1);"}, {"x = (1); x = ", "1", "; x = (1);"},
 	} {
 		checkLimit(t, api.MaxDeep, func(n int) string { return c.ahead + around(n, "(", c.middle, ")") + c.behind })
@@ -109,6 +114,42 @@ func TestLimitOfBrackets(t *testing.T) {
 		assign("x", with(api.Add, one("1"), one("1"))),
 		choose(one("1"), list(store("x", one("1"), one("1"))), nil)))
 	checkFault(t, "x = "+around(api.MaxDeep+1, "(", "1", ")")+"; x = 1 1;", api.ErrForm, len("x = "+around(api.MaxDeep+1, "(", "1", ")")+"; x = 1 "))
+}
+
+// The ( ) of a call are ( ) of the expression, too: around the others, in them, and by turns with them.
+func TestLimitOfBracketsOfCalls(t *testing.T) {
+	for _, call := range []string{"sqrt(", "abs(", "int(", "float(", "double("} {
+		for _, made := range []func(n int) string{
+			func(n int) string { return call + around(n-1, "(", "x", ")") + ")" },
+			func(n int) string { return around(n-1, "(", call+"x)", ")") },
+			func(n int) string { return around(n/2, call+"(", around(n%2, call, "x", ")"), "))") },
+			func(n int) string { return "1 + " + around(n-2, "(", "-"+call+"a["+call+"x)])", ")") + " * 2" },
+			func(n int) string { return call + "1) + " + around(n-3, "(", call+"("+call+"x)))", ")") + " + (1)" },
+		} {
+			checkLimit(t, api.MaxDeep, func(n int) string { return "x = " + made(n) + ";" })
+			checkLimit(t, api.MaxDeep, func(n int) string { return "x[" + made(n) + "] = 1;" })
+			checkLimit(t, api.MaxDeep, func(n int) string { return "if (" + made(n) + ") { }" })
+			checkLimit(t, api.MaxDeep, func(n int) string { return "while (x) { x = " + made(n) + "; }" })
+		}
+		// Beside each other they are not deeper.
+		most := call + around(api.MaxDeep-1, "(", "1", ")") + ")"
+		checkOK(t, "x = "+most+" + "+most+"; x["+most+"] = "+most+";")
+	}
+}
+
+// x in ( ), each in the next one, of calls by dice and around an expression: one pair more is too deep, whichever it is.
+func TestLimitOfMixedBrackets(t *testing.T) {
+	d := dice(1181783497276652981)
+	for range 500 {
+		s := "x"
+		for range api.MaxDeep {
+			s = pick(&d, "", "", "", "sqrt", "abs", "int", "float", "double") + "(" + s + ")"
+		}
+		checkOK(t, "x = "+s+";")
+		for _, word := range []string{"", "sqrt", "abs", "int", "float", "double"} {
+			checkFault(t, "x = "+word+"("+s+");", api.ErrLimit, 0)
+		}
+	}
 }
 
 // As many tokens as there may be, all of them of one thing in another one.

@@ -9,7 +9,7 @@ import (
 // parser makes a program of its tokens.
 type parser struct {
 	tokens
-	open    int // ( ) around what comes next
+	open    int // ( ) of an expression around what comes next
 	deepest int // the most that open has been
 }
 

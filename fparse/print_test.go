@@ -146,6 +146,30 @@ func TestThereAndBack(t *testing.T) {
 	}
 }
 
+// The deepest trees of all: no right expression has more ( ) in ( ) than Parse takes, be they a call's or not.
+func TestPrintOfTheDeepestBrackets(t *testing.T) {
+	for _, over := range []func(e api.Expr, i int) api.Expr{
+		func(e api.Expr, i int) api.Expr { return with(api.Abs, e) },
+		func(e api.Expr, i int) api.Expr { return cast(api.DoubleType, e) },
+		func(e api.Expr, i int) api.Expr { return with(api.Mul, one("2"), e) },
+		func(e api.Expr, i int) api.Expr {
+			return []api.Expr{with(api.Sqrt, e), with(api.Div, one("1"), e), cast(api.IntType, e)}[i%3]
+		},
+	} {
+		e := name("x")
+		for i := range api.MaxDeep - 1 {
+			e = over(e, i)
+		}
+		for _, s := range []api.Stmt{assign("x", e), store("x", e, e), choose(e, nil, nil), loop(e)} {
+			text, errno := fparse.Print(body(s))
+			if errno != api.OK {
+				t.Fatalf("Print(%v) has the error %d", s, errno)
+			}
+			checkParse(t, text, body(s))
+		}
+	}
+}
+
 // The limits of a text: as many bytes as there may be, and one more.
 func TestPrintAtTheLimitOfBytes(t *testing.T) {
 	made := func(bytes int) api.Program {
