@@ -54,6 +54,9 @@ func (l line[N]) refine(op api.Op, a, b stretch[N]) (stretch[N], stretch[N]) {
 		r, s = l.meet(a, b), l.meet(b, a)
 	case api.Ne:
 		r, s = l.without(a, b), l.without(b, a)
+	default:
+		// Nothing is asked of them, so that an Empty one takes nothing of the other one.
+		return a, b
 	}
 	// Also one that was so from the beginning.
 	if r.empty || s.empty {

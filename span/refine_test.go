@@ -172,27 +172,46 @@ func wantRefine(f api.Format, op api.Op, a, b api.FloatRange) (api.FloatRange, a
 	return rangeOf(f, al, ah), rangeOf(f, bl, bh)
 }
 
-// Another op leaves both as they are; with an Empty one both are Empty.
-func TestRefineOfNoRelation(t *testing.T) {
+// Another op leaves both as they are, an Empty one beside one that is not, too; one of the six leaves nothing then.
+func TestRefineOfEmpty(t *testing.T) {
 	for _, op := range allOps() {
+		related := op >= api.Lt && op <= api.Ne
 		for _, f := range formats {
 			a, b := rangeOf(f, 0, 1), rangeOf(f, 5, 6)
-			if r, s := span.Refine(f, op, a, b); (op < api.Lt || op > api.Ne) && (r != a || s != b) {
+			if r, s := span.Refine(f, op, a, b); !related && (r != a || s != b) {
 				t.Errorf("Refine(%d, %d) = %v, %v", f, op, r, s)
 			}
-			for _, c := range [][2]api.FloatRange{{none, a}, {a, none}, {none, none}} {
-				if r, s := span.Refine(f, op, c[0], c[1]); r != none || s != none {
-					t.Errorf("Refine(%d, %d) of %v = %v, %v", f, op, c, r, s)
+			for _, some := range []api.FloatRange{a, b, rangeOf(f, 0, 0), rangeOf(f, -2, -1), span.Top(f), none} {
+				for _, c := range [][2]api.FloatRange{{none, some}, {some, none}} {
+					want := c
+					if related {
+						want = [2]api.FloatRange{none, none}
+					}
+					if r, s := span.Refine(f, op, c[0], c[1]); r != want[0] || s != want[1] {
+						t.Errorf("Refine(%d, %d) of %v = %v, %v; want %v", f, op, c, r, s, want)
+					}
 				}
 			}
 		}
+	}
+}
+
+func TestIntRefineOfEmpty(t *testing.T) {
+	for _, op := range allOps() {
+		related := op >= api.Lt && op <= api.Ne
 		a, b := intsOf(0, 1), intsOf(5, 6)
-		if r, s := span.IntRefine(op, a, b); (op < api.Lt || op > api.Ne) && (r != a || s != b) {
+		if r, s := span.IntRefine(op, a, b); !related && (r != a || s != b) {
 			t.Errorf("IntRefine(%d) = %v, %v", op, r, s)
 		}
-		for _, c := range [][2]api.IntRange{{noInts, a}, {a, noInts}, {noInts, noInts}} {
-			if r, s := span.IntRefine(op, c[0], c[1]); r != noInts || s != noInts {
-				t.Errorf("IntRefine(%d) of %v = %v, %v", op, c, r, s)
+		for _, some := range []api.IntRange{a, b, intsOf(0, 0), intsOf(3, 4), intsOf(-2, -1), span.IntTop(), noInts} {
+			for _, c := range [][2]api.IntRange{{noInts, some}, {some, noInts}} {
+				want := c
+				if related {
+					want = [2]api.IntRange{noInts, noInts}
+				}
+				if r, s := span.IntRefine(op, c[0], c[1]); r != want[0] || s != want[1] {
+					t.Errorf("IntRefine(%d) of %v = %v, %v; want %v", op, c, r, s, want)
+				}
 			}
 		}
 	}
