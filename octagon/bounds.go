@@ -39,11 +39,6 @@ func allInBox(l []int64) bool {
 	return true
 }
 
-// asInt is the nearest int of 32 bits.
-func asInt(x int64) int64 {
-	return min(max(x, api.MinInt), api.MaxInt)
-}
-
 // inBox is the bound of two sides in the whole box.
 func inBox(a, b int) int64 {
 	if a == other(b) {

@@ -159,19 +159,26 @@ func (m *model) check(t *testing.T, what string) {
 		}
 	}
 	for v := range m.n {
-		want := noInts
-		for i, l := range m.points {
-			x := min(max(l[v], api.MinInt), api.MaxInt)
-			if i == 0 {
-				want = ints(x, x)
-			}
-			want = ints(min(want.Lo, x), max(want.Hi, x))
-		}
-		if got := m.o.Range(v); got != want {
+		if got, want := m.o.Range(v), m.rangeOf(v); got != want {
 			t.Fatalf("%s: range of %d is %v, not %v", what, v, got, want)
 		}
 	}
 	m.checkHas(t, what)
+}
+
+// rangeOf is from the least int of 32 bits that a variable is in a point to the greatest one.
+func (m *model) rangeOf(v int) api.IntRange {
+	all := noInts
+	for _, l := range m.points {
+		switch x := l[v]; {
+		case x < api.MinInt || x > api.MaxInt:
+		case all.Empty:
+			all = ints(x, x)
+		default:
+			all = ints(min(all.Lo, x), max(all.Hi, x))
+		}
+	}
+	return all
 }
 
 // checkHas asks for all points, and for what stands beside them.

@@ -326,17 +326,141 @@ func TestSet(t *testing.T) {
 	}
 }
 
-// P10.1: each end is at least MinInt and at most MaxInt, also of what lies past them.
+// between is one of n variables, of which i is from lo to hi; the others are any numbers of the box.
+func between(t *testing.T, n, i int, lo, hi int64) *octagon.Oct {
+	t.Helper()
+	o := octagon.New(n)
+	if o.Limit(i, false, i, false, 2*hi) != api.OK || o.Limit(i, true, i, true, -2*lo) != api.OK || o.Empty() {
+		t.Fatalf("%d to %d: %s", lo, hi, told(o))
+	}
+	return o
+}
+
+// P10.1: of numbers past the ints, at an end of them, and over it, those are told that are ints; all else stays as it is.
 func TestRangeOfWhatIsNoInt(t *testing.T) {
-	o := octagon.New(1)
+	for _, c := range []struct {
+		lo, hi int64
+		want   api.IntRange
+	}{
+		{api.MaxInt + 1, api.MaxInt + 1, noInts},
+		{api.MaxInt + 1, edge, noInts},
+		{api.MaxInt + 7, api.MaxInt + 9, noInts},
+		{edge, edge, noInts},
+		{api.MaxInt, api.MaxInt, ints(api.MaxInt, api.MaxInt)},
+		{api.MaxInt, api.MaxInt + 1, ints(api.MaxInt, api.MaxInt)},
+		{api.MaxInt, edge, ints(api.MaxInt, api.MaxInt)},
+		{api.MaxInt - 1, api.MaxInt, ints(api.MaxInt-1, api.MaxInt)},
+		{api.MaxInt - 7, api.MaxInt + 2, ints(api.MaxInt-7, api.MaxInt)},
+		{0, edge, ints(0, api.MaxInt)},
+		{api.MinInt, edge, ints(api.MinInt, api.MaxInt)},
+		{-edge, edge, ints(api.MinInt, api.MaxInt)},
+		{api.MinInt - 1, api.MaxInt + 1, ints(api.MinInt, api.MaxInt)},
+		{api.MinInt, api.MaxInt, ints(api.MinInt, api.MaxInt)},
+		{-edge, api.MaxInt, ints(api.MinInt, api.MaxInt)},
+		{-edge, 0, ints(api.MinInt, 0)},
+		{api.MinInt - 2, api.MinInt + 7, ints(api.MinInt, api.MinInt+7)},
+		{api.MinInt, api.MinInt + 1, ints(api.MinInt, api.MinInt+1)},
+		{-edge, api.MinInt, ints(api.MinInt, api.MinInt)},
+		{api.MinInt - 1, api.MinInt, ints(api.MinInt, api.MinInt)},
+		{api.MinInt, api.MinInt, ints(api.MinInt, api.MinInt)},
+		{-edge, -edge, noInts},
+		{api.MinInt - 9, api.MinInt - 7, noInts},
+		{-edge, api.MinInt - 1, noInts},
+		{api.MinInt - 1, api.MinInt - 1, noInts},
+	} {
+		for n := 1; n <= api.MaxInts; n++ {
+			for i := range n {
+				o := between(t, n, i, c.lo, c.hi)
+				if got := o.Range(i); got != c.want {
+					t.Errorf("%d of %d, from %d to %d: %v, not %v", i, n, c.lo, c.hi, got, c.want)
+				}
+				checkAlone(t, o, i, c.lo, c.hi)
+			}
+		}
+	}
+}
+
+// checkAlone holds all but the range of i, which is from lo to hi, against what it was told.
+func checkAlone(t *testing.T, o *octagon.Oct, i int, lo, hi int64) {
+	t.Helper()
+	if o.Empty() || o.Bound(i, false, i, false) != 2*hi || o.Bound(i, true, i, true) != -2*lo {
+		t.Errorf("from %d to %d: %s", lo, hi, told(o))
+	}
+	l := make([]int64, o.Vars())
+	for _, x := range []int64{lo - 1, lo, hi, hi + 1} {
+		l[i] = x
+		if o.Has(l...) != (x >= lo && x <= hi) {
+			t.Errorf("from %d to %d: %v is in it: %v", lo, hi, l, o.Has(l...))
+		}
+	}
+	for k := range l {
+		if k != i && o.Range(k) != ints(api.MinInt, api.MaxInt) {
+			t.Errorf("from %d to %d: %d is %v", lo, hi, k, o.Range(k))
+		}
+	}
+}
+
+// P10.1: bounds whose half is no whole number, about the ends of ints.
+func TestRangeByHalves(t *testing.T) {
+	for _, c := range []struct {
+		c           int64
+		above, upTo api.IntRange
+	}{
+		{4294967293, ints(api.MaxInt, api.MaxInt), ints(api.MinInt, api.MaxInt-1)},
+		{4294967294, ints(api.MaxInt, api.MaxInt), ints(api.MinInt, api.MaxInt)},
+		{4294967295, noInts, ints(api.MinInt, api.MaxInt)},
+		{4294967296, noInts, ints(api.MinInt, api.MaxInt)},
+		{-4294967295, ints(api.MinInt+1, api.MaxInt), ints(api.MinInt, api.MinInt)},
+		{-4294967296, ints(api.MinInt, api.MaxInt), ints(api.MinInt, api.MinInt)},
+		{-4294967297, ints(api.MinInt, api.MaxInt), noInts},
+		{-4294967298, ints(api.MinInt, api.MaxInt), noInts},
+	} {
+		o, p := octagon.New(1), octagon.New(1)
+		if o.Limit(0, true, 0, true, -c.c) != api.OK || o.Empty() || o.Range(0) != c.above {
+			t.Errorf("twice it is at least %d: %s", c.c, told(o))
+		}
+		if p.Limit(0, false, 0, false, c.c) != api.OK || p.Empty() || p.Range(0) != c.upTo {
+			t.Errorf("twice it is at most %d: %s", c.c, told(p))
+		}
+	}
+}
+
+// P10.1: the same of what leaves the ints, and comes back to them, by other calls.
+func TestRangeThatLeavesTheInts(t *testing.T) {
+	o := octagon.New(2)
 	o.Set(0, ints(api.MaxInt-1, api.MaxInt))
 	for _, c := range []struct {
+		neg  bool
 		by   int64
 		want api.IntRange
-	}{{0, ints(api.MaxInt-1, api.MaxInt)}, {1, ints(api.MaxInt, api.MaxInt)}, {1, ints(api.MaxInt, api.MaxInt)}, {-4, ints(api.MaxInt-3, api.MaxInt-2)}, {-1 << 32, ints(api.MinInt, api.MinInt)}} {
-		if o.Shift(0, false, c.by) != api.OK || o.Range(0) != c.want || o.Empty() {
+	}{
+		{false, 0, ints(api.MaxInt-1, api.MaxInt)}, {false, 1, ints(api.MaxInt, api.MaxInt)}, {false, 1, noInts}, {false, 1 << 31, noInts}, {false, -1 << 31, noInts},
+		{false, -4, ints(api.MaxInt-3, api.MaxInt-2)}, {true, -4, ints(api.MinInt, api.MinInt)}, {false, -1, noInts}, {true, -4, ints(api.MaxInt-2, api.MaxInt-1)}, {false, -1 << 32, noInts},
+	} {
+		if o.Shift(0, c.neg, c.by) != api.OK || o.Range(0) != c.want || o.Empty() {
 			t.Errorf("%v; want %v", o.Range(0), c.want)
 		}
+	}
+	// A copy is an int or none by its own numbers, whatever the other one is.
+	if o.Copy(1, 0, true, 0) != api.OK || o.Range(0) != noInts || o.Range(1) != noInts || o.Empty() {
+		t.Error(told(o))
+	}
+	if o.Copy(1, 0, false, 1<<32) != api.OK || o.Range(0) != noInts || o.Range(1) != ints(api.MaxInt-2, api.MaxInt-1) {
+		t.Error(told(o))
+	}
+	// Above one that is past the ints there is none; what joins both reaches over all between.
+	p := octagon.New(2)
+	p.Set(0, ints(api.MaxInt, api.MaxInt))
+	if p.Limit(0, false, 1, true, -1) != api.OK || p.Range(0) != ints(api.MaxInt, api.MaxInt) || p.Range(1) != noInts || p.Empty() {
+		t.Error(told(p))
+	}
+	q := between(t, 2, 1, -edge, api.MinInt-1)
+	if q.Range(1) != noInts || p.Join(q).Range(1) != ints(api.MinInt, api.MaxInt) || !p.Meet(q).Empty() || p.Meet(q).Range(1) != noInts {
+		t.Error(told(p.Join(q)))
+	}
+	// Set leaves just what is an int: nothing here.
+	if q.Set(1, ints(api.MinInt, api.MaxInt)) != api.OK || !q.Empty() || q.Range(0) != noInts {
+		t.Error(told(q))
 	}
 }
 
